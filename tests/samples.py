@@ -1,4 +1,4 @@
-"""Programs and texts that several tests use."""
+"""Programs, texts and tasks that several tests use."""
 
 EXAMPLE_TEXT = (
     "mod 97\ninputs 2\ns0 = x0 + x1\ns1 = s0 * s0\ns2 = s1 - 3\ns3 = s2 * x0\nreturn s3\n")
@@ -24,3 +24,18 @@ ALL_RETURNED = (10, 1, (("+", "x0", "9"), ("+", "9", "x0"), ("-", "s1", "s0")), 
 PAIRS = (
     (EXAMPLE_TEXT, EXAMPLE), (SHORTEST_TEXT, SHORTEST), (LONGEST_TEXT, LONGEST),
     (ALL_RETURNED_TEXT, ALL_RETURNED))
+
+# A chain: each step uses the one before it. The task of EXAMPLE.
+CHAIN = (((), (0,), (1,), (2,)), (3,))
+LONG_CHAIN = (((), (0,), (1,), (2,), (3,), (4,), (5,), (6,)), (7,))
+# Two steps that use none, and one that uses both.
+FORK = (((), (), (0, 1)), (2,))
+# Steps that use none, and all of them are targets.
+FREE = (((), (), ()), (0, 1, 2))
+# A step in each row that uses two of the row before it.
+PYRAMID = (((), (), (), (0, 1), (1, 2), (3, 4)), (5,))
+# Two chains and a step that uses the ends of both, with a step that is not needed.
+TWIN = (((), (0,), (), (2,), (1, 3), (0, 2)), (4,))
+WIDE = (((),) * 8, (1, 4, 7))
+
+TASKS = (CHAIN, FORK, FREE, PYRAMID, TWIN, (((),), (0,)), (((), (0,)), (0, 1)))

@@ -8,11 +8,24 @@ import unittest
 import warnings
 from pathlib import Path
 
-from tidyback import programs
+from tidyback import certificates, planning, prices, programs, tasks
 
 ROOT = Path(__file__).resolve().parent.parent
 FILES = sorted((ROOT / "tidyback").rglob("*.py"))
 LIBRARY = {"heapq", "math", "itertools", "collections", "__future__"}
+FUNCTIONS = {
+    programs: {"read_program": "(text)", "format_program": "(program)",
+               "evaluate": "(program, inputs)", "task_of": "(program)"},
+    tasks: {"task": "(uses, targets)", "needed": "(task)", "is_possible": "(task, configuration, move)",
+            "walk": "(task, plan, *, start=())", "look": "(task, plan)"},
+    planning: {"shortest_plan": "(task, registers, *, start=(), goal=None)",
+               "fewest_registers": "(task)", "tradeoff": "(task)"},
+    certificates: {"certificate": "(task, registers)", "is_right": "(task, certificate)",
+                   "flaw": "(task, certificate)"},
+    prices: {"price_of": "(prices, plan)", "cheapest_plan": "(task, registers, prices)",
+             "price_certificate": "(task, registers, prices)",
+             "is_right_price": "(task, prices, certificate)"},
+}
 BUILTINS = set(
     "len range enumerate zip min max sum abs sorted reversed int str bool list tuple dict set isinstance "
     "ord repr any all divmod map iter next super ValueError TypeError KeyError IndexError LookupError "
@@ -71,12 +84,12 @@ class FormTest(unittest.TestCase):
                 compile(path.read_text("utf-8"), str(path), "exec")
 
     def test_the_functions_of_the_interface(self):
-        wanted = {"read_program": ["text"], "format_program": ["program"],
-                  "evaluate": ["program", "inputs"], "task_of": ["program"]}
-        for name, parameters in wanted.items():
-            function = getattr(programs, name)
-            self.assertEqual(function.__module__, "tidyback.programs")
-            self.assertEqual(list(inspect.signature(function).parameters), parameters)
+        for module, wanted in FUNCTIONS.items():
+            for name, parameters in wanted.items():
+                function = getattr(module, name)
+                self.assertTrue(inspect.isfunction(function), name)
+                self.assertEqual(function.__module__, module.__name__)
+                self.assertEqual(str(inspect.signature(function)), parameters, name)
 
     def test_the_examples_of_the_readme(self):
         failed, tried = doctest.testfile(str(ROOT / "README.md"), module_relative=False)

@@ -1,0 +1,34 @@
+"""Transitions between configurations, and what can be reached by them."""
+
+from tidyback.tasks import is_possible, moved
+
+
+def transitions(task, configuration, registers):
+    """Return the list of the pairs (step, next configuration) within the registers, by ascending steps."""
+    uses, _ = task
+    found = []
+    for step in range(len(uses)):
+        after = moved(configuration, step)
+        if len(after) <= registers and is_possible(task, configuration, step):
+            found.append((step, after))
+    return found
+
+
+def first_plans(task, registers, start):
+    """Return a dict that has, for each configuration that can be reached, the first of the shortest plans.
+
+    The plans are tuples. Shorter ones stand before longer ones, those of the same length in
+    lexicographic order.
+    """
+    plans = {start: ()}
+    level = [start]
+    while level:
+        following = []
+        # Plans and steps are gone through in order, so the first plan found is the first of all.
+        for configuration in level:
+            for step, after in transitions(task, configuration, registers):
+                if after not in plans:
+                    plans[after] = (*plans[configuration], step)
+                    following.append(after)
+        level = following
+    return plans
