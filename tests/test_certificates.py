@@ -7,6 +7,7 @@ from oracle import all_tasks, configuration_of, edges, shortest
 from samples import CHAIN, EXAMPLE, FORK, FREE, LONG_CHAIN, TASKS, WIDE
 from tidyback.certificates import certificate, flaw, is_right
 from tidyback.programs import task_of
+from variants import changed, replaced
 
 ONE = (((),), (0,))
 # Right: the shortest plan for FORK within 3 registers has 5 moves.
@@ -14,29 +15,6 @@ FORK_LEVELS = (
     ((),), ((0,), (1,)), ((0, 1),), ((0, 1, 2),), ((0, 2), (1, 2)))
 # Right: within 2 registers there is none.
 CHAIN_LEVELS = (((),), ((0,),), ((0, 1),), ((1,),), ((1, 2),))
-
-
-def replaced(levels, at, level):
-    """Return the levels with another one at this place."""
-    return (*levels[:at], tuple(level), *levels[at + 1:])
-
-
-def changed(given):
-    """Return certificates that are like the given one, but for one configuration, level or number."""
-    registers, moves, levels = given
-    found = [(registers + 1, moves, levels), (registers - 1, moves, levels), (registers, None, levels),
-             (registers, len(levels), levels), (registers, len(levels) + 1, levels)]
-    every = sorted({configuration for level in levels for configuration in level} | {(0, 1, 2)})
-    for at, level in enumerate(levels):
-        without = levels[:at] + levels[at + 1:]
-        if without:
-            found += [(registers, moves, without), (registers, len(without), without)]
-        found.append((registers, moves, replaced(levels, at, level[::-1])))
-        for configuration in every:
-            kept = [each for each in level if each != configuration]
-            for other in (kept, [configuration, *level], [*level, configuration]):
-                found.append((registers, moves, replaced(levels, at, other)))
-    return found
 
 
 class CertificateTest(unittest.TestCase):
@@ -64,15 +42,10 @@ class CertificateTest(unittest.TestCase):
     def test_levels_by_their_words(self):
         for task in (*all_tasks(3), *all_tasks(4)[::31], *TASKS):
             for registers in range(1, 6):
-                graph = edges(task, registers)
-                level, seen, levels = {0}, {0}, []
                 plan = shortest(task, registers)
-                while level and (plan is None or len(levels) < len(plan)):
-                    levels.append(tuple(sorted(map(configuration_of, level))))
-                    level = {after for number in level for after in graph[number].values()} - seen
-                    seen |= level
                 moves = None if plan is None else len(plan)
-                self.assertEqual(certificate(task, registers), (registers, moves, tuple(levels)))
+                levels = oracle.levels_of(task, registers, edges, plan)
+                self.assertEqual(certificate(task, registers), (registers, moves, levels))
 
     def test_the_certificate_of_a_task_is_right(self):
         for task in (*all_tasks(3), *TASKS, LONG_CHAIN, WIDE):

@@ -8,7 +8,7 @@ import unittest
 import warnings
 from pathlib import Path
 
-from tidyback import certificates, planning, prices, programs, tasks
+from tidyback import certificates, code, effects, planning, prices, programs, rounds, tasks
 
 ROOT = Path(__file__).resolve().parent.parent
 FILES = sorted((ROOT / "tidyback").rglob("*.py"))
@@ -25,11 +25,28 @@ FUNCTIONS = {
     prices: {"price_of": "(prices, plan)", "cheapest_plan": "(task, registers, prices)",
              "price_certificate": "(task, registers, prices)",
              "is_right_price": "(task, prices, certificate)"},
+    rounds: {"is_round": "(task, configuration, steps, registers)", "shortest_schedule": "(task, registers)",
+             "solves_in_rounds": "(task, registers, schedule)", "round_certificate": "(task, registers)",
+             "is_right_rounds": "(task, certificate)"},
+    code: {"check_code": "(program, code)", "run": "(program, code, inputs, registers)",
+           "traced": "(program, code, inputs)", "inverted": "(code)", "flaw_of_code": "(program, code)",
+           "compiled": "(program, plan)", "decompiled": "(program, code)", "cancelled": "(code)"},
+    effects: {"first_difference": "(program, code, other)", "places_of": "(program, code)",
+              "first_untidy": "(program, code, places)"},
 }
 BUILTINS = set(
     "len range enumerate zip min max sum abs sorted reversed int str bool list tuple dict set isinstance "
     "ord repr any all divmod map iter next super ValueError TypeError KeyError IndexError LookupError "
     "NotImplemented property staticmethod classmethod".split())
+
+# Python shows its last answer as `_`, which is no builtin of its own.
+NAMES = set(dir(builtins)) - {"_"}
+BARRED = set(
+    "register mro elements open input law version_info with_traceback add_note attrgetter breakpoint builtins "
+    "compile copyright credits delattr dir eval exec exit gc globals help id importlib license locals "
+    "methodcaller os quit vars sys".split())
+BARRED_ATTRIBUTES = BARRED | set(
+    "items keys values pop update append clear extend insert remove reverse setdefault sort args format".split())
 
 
 def trees():
@@ -49,11 +66,58 @@ class FormTest(unittest.TestCase):
 
     def test_no_other_builtin_is_read(self):
         """So no file, network, clock or random source can be reached."""
-        names = set(dir(builtins))
         for path, tree in trees():
             for node in ast.walk(tree):
-                if isinstance(node, ast.Name) and node.id in names:
+                if isinstance(node, ast.Name) and node.id in NAMES:
                     self.assertIn(node.id, BUILTINS, path)
+
+    def test_names_mean_nothing_else(self):
+        """No function, class, parameter or variable has the name of a builtin, or one that is barred."""
+        names = NAMES | BARRED
+        for path, tree in trees():
+            for node in ast.walk(tree):
+                if isinstance(node, (ast.ClassDef, ast.FunctionDef, ast.arg)):
+                    name = node.arg if isinstance(node, ast.arg) else node.name
+                    self.assertNotIn(name, names, path)
+                if isinstance(node, ast.Name) and isinstance(node.ctx, ast.Store):
+                    self.assertNotIn(node.id, names, path)
+                if isinstance(node, ast.Attribute) and isinstance(node.ctx, ast.Store):
+                    self.assertNotIn(node.attr, BARRED_ATTRIBUTES, path)
+
+    def test_no_parameter_or_variable_has_the_name_of_a_class_or_an_import(self):
+        for path, tree in trees():
+            taken = {node.name for node in tree.body if isinstance(node, ast.ClassDef)}
+            for node in tree.body:
+                if isinstance(node, ast.ImportFrom):
+                    taken |= {each.name for each in node.names}
+            for node in ast.walk(tree):
+                if isinstance(node, ast.arg):
+                    self.assertNotIn(node.arg, taken, path)
+                if isinstance(node, ast.Name) and isinstance(node.ctx, ast.Store):
+                    self.assertNotIn(node.id, taken, path)
+
+    def test_files_import_names_from_the_file_that_defines_them(self):
+        found = dict(trees())
+        for path, tree in found.items():
+            for node in ast.walk(tree):
+                if isinstance(node, ast.ImportFrom) and node.module.startswith("tidyback"):
+                    source = found[ROOT / (node.module.replace(".", "/") + ".py")]
+                    bound = {each.name for each in source.body if hasattr(each, "name")}
+                    bound |= {target.id for each in source.body if isinstance(each, ast.Assign)
+                              for target in each.targets}
+                    for each in node.names:
+                        self.assertIn(each.name, bound, path)
+
+    def test_what_is_left_out_of_the_language(self):
+        for path, tree in trees():
+            for node in ast.walk(tree):
+                self.assertNotIsInstance(node, (
+                    ast.GeneratorExp, ast.Lambda, ast.Global, ast.Nonlocal, ast.AsyncFunctionDef, ast.Await,
+                    ast.Yield, ast.YieldFrom, ast.NamedExpr, ast.AnnAssign, ast.With, ast.Match), path)
+                if isinstance(node, ast.Constant):
+                    self.assertNotIsInstance(node.value, (float, bytes), path)
+                if isinstance(node, ast.BinOp):
+                    self.assertNotIsInstance(node.op, (ast.Div, ast.Pow), path)
 
     def test_nothing_at_module_level_can_be_modified(self):
         for path, tree in trees():

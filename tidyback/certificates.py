@@ -5,8 +5,13 @@ from tidyback.transitions import first_plans, transitions
 
 def certificate(task, registers):
     """Return the certificate of a task for a number of registers."""
+    return certificate_by(task, registers, transitions)
+
+
+def certificate_by(task, registers, lead):
+    """Return the certificate of a task, where lead tells where its moves lead to (`first_plans`)."""
     _, targets = task
-    plans = first_plans(task, registers, ())
+    plans = first_plans(task, registers, (), lead)
     levels = levels_of(plans)
     if targets not in plans:
         return registers, None, tuple(levels)
@@ -31,6 +36,11 @@ def is_right(task, certificate):
 
 def flaw(task, certificate):
     """Return the first flaw of a certificate as a tuple, or None if it is right."""
+    return flaw_by(task, certificate, transitions)
+
+
+def flaw_by(task, certificate, lead):
+    """Return the flaw of a certificate, where lead tells where its moves lead to (`first_plans`)."""
     _, targets = task
     _, moves, levels = certificate
     if not levels or () not in levels[0]:
@@ -40,10 +50,10 @@ def flaw(task, certificate):
     for at, level in enumerate(levels):
         if targets in level:
             return ("target", at)
-    return flaw_of_steps(task, certificate)
+    return flaw_of_steps(task, certificate, lead)
 
 
-def flaw_of_steps(task, certificate):
+def flaw_of_steps(task, certificate, lead):
     """Return the flaw of the first transition that does not lead to where it has to, or None."""
     registers, moves, levels = certificate
     first = first_levels(levels)
@@ -52,7 +62,7 @@ def flaw_of_steps(task, certificate):
         for configuration in level:
             # A later level allows more, so what was right in the first one need not be seen again.
             if first[configuration] == at:
-                step = wrong_step(transitions(task, configuration, registers), first, at + 1)
+                step = wrong_step(lead(task, configuration, registers), first, at + 1)
                 if step is not None:
                     return ("step", at, configuration, step)
     return None

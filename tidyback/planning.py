@@ -1,6 +1,6 @@
 """Plans with the fewest moves, and the registers that they need."""
 
-from tidyback.transitions import first_plans
+from tidyback.transitions import first_plans, transitions
 
 
 def shortest_plan(task, registers, *, start=(), goal=None):
@@ -9,7 +9,7 @@ def shortest_plan(task, registers, *, start=(), goal=None):
         _, goal = task
     if len(start) > registers:
         return None
-    plans = first_plans(task, registers, start)
+    plans = first_plans(task, registers, start, transitions)
     if goal not in plans:
         return None
     return list(plans[goal])

@@ -78,3 +78,10 @@ def look(task, plan):
     last = configurations[-1]
     peak = max([len(configuration) for configuration in configurations])
     return last, peak, last == targets
+
+
+def check_plan(task, plan):
+    """Raise PlanError if a plan is not valid, or does not solve the task."""
+    _, _, solves = look(task, plan)
+    if not solves:
+        raise PlanError("other targets", -1)

@@ -14,21 +14,21 @@ def transitions(task, configuration, registers):
     return found
 
 
-def first_plans(task, registers, start):
+def first_plans(task, registers, start, lead):
     """Return a dict that has, for each configuration that can be reached, the first of the shortest plans.
 
-    The plans are tuples. Shorter ones stand before longer ones, those of the same length in
-    lexicographic order.
+    lead is `transitions`, or a function that tells in the same way where other moves lead to. The plans
+    are tuples. Shorter ones stand before longer ones, those of the same length in lexicographic order.
     """
     plans = {start: ()}
     level = [start]
     while level:
         following = []
-        # Plans and steps are gone through in order, so the first plan found is the first of all.
+        # Plans and moves are gone through in order, so the first plan found is the first of all.
         for configuration in level:
-            for step, after in transitions(task, configuration, registers):
+            for move, after in lead(task, configuration, registers):
                 if after not in plans:
-                    plans[after] = (*plans[configuration], step)
+                    plans[after] = (*plans[configuration], move)
                     following.append(after)
         level = following
     return plans
