@@ -45,6 +45,33 @@ tidyback/code.py
 ([0, 0, 26, 0, 0, 0, 0, 0], (8, 'other outputs'))
 >>> cancelled([k[0], k[1], (1, "-", "*", "r0", "r0"), k[2]])
 []
+
+tidyback/joining.py
+
+>>> from tidyback.joining import joined, joined_plan
+>>> a = (7, 1, (("*", "x0", "x0"),), (0,))
+>>> b = (7, 2, (("+", "x0", "x1"), ("*", "s0", "3")), (1,))
+>>> joined(a, b, (0, None))
+(7, 2, (('*', 'x0', 'x0'), ('+', 's0', 'x1'), ('*', 's1', '3')), (2,))
+>>> joined_plan(a, b, (0, None), [0], [0, 1, 0])
+[0, 1, 2, 1, 0]
+
+tidyback/benches.py
+
+>>> from tidyback.benches import Bench
+>>> bench = Bench(t, 3)
+>>> bench.remaining(), bench.hint(), bench.toggle(0), bench.way()
+(9, 0, (0,), [1, 0, 2, 3, 2, 0, 1, 0])
+>>> bench.replay([("toggle", 1), ("toggle", 3), ("toggle", 0)]), bench.log, 1 in bench
+(1, [('toggle', 0), ('toggle', 1)], True)
+
+tidyback/judges.py
+
+>>> from tidyback.judges import answer, flaw_of_plan
+>>> answer(p, ("moves", 2))
+('no moves', 2, (2, None, (((),), ((0,),), ((0, 1),), ((1,),), ((1, 2),))))
+>>> flaw_of_plan(t, 2, [0, 1, 0, 2, 0]), answer(p, ("code", k[:1]))
+((4, 'too many registers'), ('no code', [(0, '+', '+', 'x0', 'x1')], 1, 'other outputs'))
 '''
 
 

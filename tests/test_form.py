@@ -8,11 +8,12 @@ import unittest
 import warnings
 from pathlib import Path
 
-from tidyback import certificates, code, effects, planning, prices, programs, rounds, tasks
+from tidyback import (
+    benches, certificates, code, effects, errors, joining, judges, machines, planning, prices, programs, rounds, tasks)
 
 ROOT = Path(__file__).resolve().parent.parent
 FILES = sorted((ROOT / "tidyback").rglob("*.py"))
-LIBRARY = {"heapq", "math", "itertools", "collections", "__future__"}
+LIBRARY = {"heapq", "math", "collections"}
 FUNCTIONS = {
     programs: {"read_program": "(text)", "format_program": "(program)",
                "evaluate": "(program, inputs)", "task_of": "(program)"},
@@ -33,6 +34,25 @@ FUNCTIONS = {
            "compiled": "(program, plan)", "decompiled": "(program, code)", "cancelled": "(code)"},
     effects: {"first_difference": "(program, code, other)", "places_of": "(program, code)",
               "first_untidy": "(program, code, places)"},
+    joining: {"joined": "(first, second, links, *, keep=False)",
+              "joined_plan": "(first, second, links, plan, other, *, keep=False)"},
+    judges: {"flaw_of_plan": "(task, registers, plan)", "flaw_of_schedule": "(task, registers, schedule)",
+             "answer": "(program, question)", "judge": "(program, claim)", "judge_all": "(program, claims)"},
+}
+METHODS = {
+    machines.Machine: {
+        "__init__": "(self, program, code, inputs)", "forward": "(self)", "backward": "(self)",
+        "move_to": "(self, position)", "states": "(self)", "__len__": "(self)", "__iter__": "(self)",
+        "__getitem__": "(self, at)", "__eq__": "(self, other)"},
+    benches.Bench: {
+        "__init__": "(self, task, registers)", "toggle": "(self, step)", "add_step": "(self, uses)",
+        "set_targets": "(self, targets)", "set_registers": "(self, registers)", "way": "(self)",
+        "remaining": "(self)", "hint": "(self)", "undo": "(self)", "replay": "(self, entries)", "branch": "(self)",
+        "__len__": "(self)", "__contains__": "(self, x)", "__iter__": "(self)", "__eq__": "(self, other)"},
+}
+PROPERTIES = {
+    machines.Machine: ("position", "registers"),
+    benches.Bench: ("task", "registers", "configuration", "log"),
 }
 BUILTINS = set(
     "len range enumerate zip min max sum abs sorted reversed int str bool list tuple dict set isinstance "
@@ -154,6 +174,27 @@ class FormTest(unittest.TestCase):
                 self.assertTrue(inspect.isfunction(function), name)
                 self.assertEqual(function.__module__, module.__name__)
                 self.assertEqual(str(inspect.signature(function)), parameters, name)
+
+    def test_the_methods_of_the_interface(self):
+        """Each one is defined in the class itself."""
+        for made, wanted in METHODS.items():
+            for name, parameters in wanted.items():
+                self.assertIn(name, vars(made))
+                self.assertEqual(str(inspect.signature(vars(made)[name])), parameters, name)
+        for made, names in PROPERTIES.items():
+            for name in names:
+                self.assertIsInstance(vars(made)[name], property)
+                self.assertIsNone(vars(made)[name].fset)
+        self.assertEqual(machines.Machine.__module__, "tidyback.machines")
+        self.assertEqual(benches.Bench.__module__, "tidyback.benches")
+
+    def test_errors_that_are_caught_are_those_of_the_program(self):
+        for path, tree in trees():
+            for node in ast.walk(tree):
+                if isinstance(node, ast.Try):
+                    self.assertEqual(node.finalbody, [], path)
+                    for handler in node.handlers:
+                        self.assertIn(handler.type.id, vars(errors), path)
 
     def test_the_examples_of_the_readme(self):
         failed, tried = doctest.testfile(str(ROOT / "README.md"), module_relative=False)

@@ -1,4 +1,4 @@
-"""What several modules ask of lists and tuples of numbers."""
+"""What several modules ask of numbers, and of lists and tuples of them."""
 
 
 def is_ascending(numbers):
@@ -9,3 +9,8 @@ def is_ascending(numbers):
 def are_ascending_steps(numbers, steps):
     """Tell whether the numbers are ascending and each one is a step, if there are so many steps."""
     return is_ascending(numbers) and all([0 <= number < steps for number in numbers])
+
+
+def is_whole(number):
+    """Tell whether any value is an integer; True and False are none."""
+    return isinstance(number, int) and not isinstance(number, bool)

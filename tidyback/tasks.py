@@ -61,6 +61,18 @@ def moved(configuration, move):
     return tuple(sorted([*configuration, move]))
 
 
+def fault_of_move(task, registers, configuration, move):
+    """Return why a move, any integer, cannot be made in a configuration within the registers, or None."""
+    uses, _ = task
+    if not 0 <= move < len(uses):
+        return "no such step"
+    if not is_possible(task, configuration, move):
+        return "not possible"
+    if len(moved(configuration, move)) > registers:
+        return "too many registers"
+    return None
+
+
 def walk(task, plan, *, start=()):
     """Return the list of all configurations of a plan, from start to the last one. Raise PlanError."""
     configurations = [start]
