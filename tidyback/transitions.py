@@ -25,7 +25,8 @@ def first_plans(task, registers, start, lead):
     while level:
         following = []
         # Plans and moves are gone through in order, so the first plan found is the first of all.
-        for configuration in level:
+        # A copy is gone through, since `level` becomes a name of the list that is appended to.
+        for configuration in list(level):
             for move, after in lead(task, configuration, registers):
                 if after not in plans:
                     plans[after] = (*plans[configuration], move)
